@@ -1,0 +1,1 @@
+"""Trees kept up by change: a text that is read anew at every step, and names that stay."""
