@@ -1,6 +1,6 @@
 """Grammars: the rules that a list of numbers tells, and whether they are sound."""
 
-# As a number a part is this and its own number; all below are words.
+# Among signs a part is this and its own number; all below are words.
 FIRST_PART = 64
 MOST_RULES = 64
 MOST_SIGNS = 8
@@ -9,8 +9,8 @@ MOST_SIGNS = 8
 class Grammar:
     """Rules over words and parts, laid out as the reader looks them up.
 
-    Each rule is a tuple: its part, and the tuple of its signs. The places of all rules are numbered
-    together: one ahead of each sign, and one behind the last.
+    Each rule is a tuple: its part, as the sign that it is in other rules, and the tuple of its signs.
+    The places of all rules are numbered together: one ahead of each sign, and one behind the last.
     """
 
     def __init__(self, word_count, rules):
@@ -32,8 +32,8 @@ class Grammar:
         self.rules_begun_by.setdefault(signs[0], []).append(number)
 
 
-def is_part(number, part_count):
-    return FIRST_PART <= number < FIRST_PART + part_count
+def is_sign(number, word_count, part_count):
+    return number < word_count or FIRST_PART <= number < FIRST_PART + part_count
 
 
 def told_rule(word_count, part_count, numbers, start):
@@ -42,15 +42,13 @@ def told_rule(word_count, part_count, numbers, start):
         return None
     part = numbers[start]
     count = numbers[start + 1]
-    if not is_part(part, part_count) or not 1 <= count <= MOST_SIGNS:
+    # What a rule is of is never a word, so here a part is told by its own number alone.
+    if part >= part_count or not 1 <= count <= MOST_SIGNS:
         return None
     signs = tuple(numbers[start + 2:start + 2 + count])
-    if len(signs) < count:
+    if len(signs) < count or not all([is_sign(sign, word_count, part_count) for sign in signs]):
         return None
-    for sign in signs:
-        if sign >= word_count and not is_part(sign, part_count):
-            return None
-    return (part, signs)
+    return (FIRST_PART + part, signs)
 
 
 def told_rules(word_count, part_count, numbers):

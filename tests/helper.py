@@ -9,6 +9,7 @@ HIGHEST = 2 ** 64 - 1
 
 
 def part(number):
+    """The part as a sign."""
     return 64 + number
 
 
@@ -16,7 +17,7 @@ def rules(*told):
     """One list of rules, each told as (number of its part, signs)."""
     numbers = []
     for number, signs in told:
-        numbers += [part(number), len(signs)] + list(signs)
+        numbers += [number, len(signs)] + list(signs)
     return numbers
 
 

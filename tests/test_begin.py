@@ -32,10 +32,11 @@ class Counts(unittest.TestCase):
     def test_signs(self):
         for count, answer in ((0, -3), (1, 0), (2, 0), (8, 0), (9, -3)):
             self.assertEqual(answer_of(1, 1, rules((0, [0] * count))), [answer], count)
-        self.assertEqual(answer_of(1, 1, [part(0), HIGHEST, 0]), [-3])
+        self.assertEqual(answer_of(1, 1, [0, HIGHEST, 0]), [-3])
 
     def test_the_longest_list(self):
-        self.assertEqual(answer_of(1, 1, [part(0)] * 1024), [-3])
+        self.assertEqual(answer_of(1, 1, [0] * 1024), [-3])
+        self.assertEqual(answer_of(1, 1, [0, 8] * 512), [-3])
         self.assertEqual(answer_of(1, 1, [HIGHEST] * 1024), [-3])
 
 
@@ -58,9 +59,19 @@ class Forms(unittest.TestCase):
         self.assertEqual(answer_of(1, 32, rules((32, [0]))), [-3])
         self.assertEqual(answer_of(1, 1, [HIGHEST, 1, 0]), [-3])
 
-    def test_a_rule_of_a_word(self):
-        self.assertEqual(answer_of(64, 32, [0, 1, 0]), [-3])
-        self.assertEqual(answer_of(64, 32, [63, 1, 0]), [-3])
+    def test_a_rules_own_part_is_told_by_its_number(self):
+        self.assertEqual(answer_of(3, 2, [1, 4, 0, 65, 64, 1]), [0])
+        for parts in (1, 2, 31, 32):
+            for number in (0, 1, 30, 31, 32, 63, 64, 65, 64 + parts - 1, 64 + parts, HIGHEST):
+                answer = 0 if number < parts else -3
+                self.assertEqual(answer_of(64, parts, [number, 1, 0]), [answer], (parts, number))
+                self.assertEqual(answer_of(64, parts, [0, 1, 0, number, 2, 0, 64]), [answer], (parts, number))
+
+    def test_among_the_signs_a_part_is_64_and_its_number(self):
+        given = ask(begin(2, 2, [0, 2, 0, 1, 0, 2, 65, 1, 1, 2, 1, 1]), edit(0, 0, [0, 1]), TREE,
+                    edit(0, 1, [1, 1]), TREE)
+        self.assertEqual(given[1:3], [[1, 1, 0, 0], [1, 0, 64, 0, 1]])
+        self.assertEqual(given[3:], [[2, 2, 1, 2, 1, 0], [2, 1, 2, 65, 66, 1, 1, 1]])
 
     def test_a_word_that_the_grammar_has_not(self):
         self.assertEqual(answer_of(3, 1, rules((0, [0, 2]))), [0])
@@ -110,13 +121,13 @@ class Soundness(unittest.TestCase):
 
 class WhichRefusal(unittest.TestCase):
     def test_counts_ahead_of_rules(self):
-        self.assertEqual(answer_of(0, 1, [part(0)]), [-1])
-        self.assertEqual(answer_of(1, 33, [part(0)]), [-1])
+        self.assertEqual(answer_of(0, 1, [0]), [-1])
+        self.assertEqual(answer_of(1, 33, [0]), [-1])
         self.assertEqual(answer_of(65, 1, rules((0, [part(0)]))), [-1])
         self.assertEqual(answer_of(0, 0, rules((0, [part(0)]))), [-1])
 
     def test_rules_ahead_of_soundness(self):
-        self.assertEqual(answer_of(1, 1, rules((0, [part(0)])) + [part(0)]), [-3])
+        self.assertEqual(answer_of(1, 1, rules((0, [part(0)])) + [0]), [-3])
         self.assertEqual(answer_of(1, 1, rules((0, [part(0)]), (0, [part(0)]))), [-3])
         self.assertEqual(answer_of(1, 1, rules((0, [part(0)]), (0, [1]))), [-3])
         self.assertEqual(answer_of(8, 1, rules((0, [part(0)]), *distinct_rules(64))), [-3])
@@ -143,7 +154,7 @@ class Again(unittest.TestCase):
         self.assertEqual(given, [[0], [0], [-1], [0, 0, 0]])
 
     def test_a_refused_one_leaves_all_as_it_was(self):
-        refused = (begin(0, 1, []), begin(1, 0, []), begin(2, 2, [part(0)]), begin(2, 2, rules((1, [part(1)]))))
+        refused = (begin(0, 1, []), begin(1, 0, []), begin(2, 2, [0]), begin(2, 2, rules((1, [part(1)]))))
         for wrong in refused:
             plain = [begin(1, 1, self.FIRST), edit(0, 0, [0]), edit(1, 0, [0]), UNDO]
             behind = [TREE, REDO, TREE, edit(0, 0, [1]), edit(0, 0, [0]), TREE, UNDO, UNDO, UNDO, UNDO]
