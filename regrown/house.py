@@ -8,9 +8,14 @@ MOVE = 3
 UNDO = 4
 REDO = 5
 TREE = 6
+WORDS = 7
+NODE = 8
+AT = 9
+MARK = 10
 
-# Of each call how many whole numbers it has, and whether a list stands behind them.
-FORMS = {1: (2, True), 2: (2, True), 3: (3, False), 4: (0, False), 5: (0, False), 6: (0, False)}
+# How many whole numbers each call has, from call 1 on, and which calls have a list behind these.
+NUMBER_COUNTS = (2, 2, 3, 0, 0, 0, 0, 1, 2, 2, 0)
+WITH_LIST = (1, 2)
 
 
 def answers(calls):
@@ -20,13 +25,13 @@ def answers(calls):
     place = 0
     while place < len(calls):
         call = calls[place]
-        form = FORMS[call]
-        numbers = calls[place + 1:place + 1 + form[0]]
-        place = place + 1 + form[0]
+        behind = place + 1 + NUMBER_COUNTS[call - 1]
+        numbers = calls[place + 1:behind]
         row = []
-        if form[1]:
-            row = calls[place + 1:place + 1 + calls[place]]
-            place = place + 1 + len(row)
+        if call in WITH_LIST:
+            row = calls[behind + 1:behind + 1 + calls[behind]]
+            behind = behind + 1 + len(row)
+        place = behind
         answered = answer(house, call, numbers, row)
         given.append(len(answered))
         given.extend(answered)
@@ -44,4 +49,14 @@ def answer(house, call, numbers, row):
         return house.undo()
     if call == REDO:
         return house.redo()
-    return house.tree()
+    if call == TREE:
+        return house.tree()
+    if call == WORDS:
+        return house.words()
+    if call == NODE:
+        return house.node(numbers[0])
+    if call == AT:
+        return house.at(numbers[0], numbers[1])
+    if call == MARK:
+        return house.mark(numbers[0], numbers[1])
+    return house.marks()

@@ -1,25 +1,31 @@
-"""What is kept from call to call: grammar, text, tree, names, and the steps to undo and redo."""
+"""What is kept from call to call: grammar, text, tree, names, marks, and the steps to undo and redo."""
 
 from regrown.grammar import Grammar, is_sound, told_rules
-from regrown.reading import first_reading
+from regrown.reading import Reading, first_reading
 
 MOST_GRAMMAR_WORDS = 64
 MOST_PARTS = 32
 MOST_WORDS = 24
 MOST_STEPS = 64
+MOST_MARKS = 64
+HIGHEST_MARK = 1000000000000000000
 
 
 class State:
     """A text and its tree. It isn't changed once it's made, so undo can bring back the very same.
 
-    The text is a list of words, each a name and which word it is. The tree is its list of numbers and
-    its rules' names in that list's order; both are empty if there's none.
+    The text is a list of words, each a name and which word it is. The names are those of the reading's
+    rules, in the same order; both are empty if there's no tree.
     """
 
-    def __init__(self, text, numbers, names):
+    def __init__(self, text, reading, names):
         self.text = text
-        self.numbers = numbers
+        self.reading = reading
         self.names = names
+
+    def named_rules(self):
+        """Each rule's name and the rule where it stands, in the order of the tree's list."""
+        return list(zip(self.names, self.reading.placed))
 
 
 class House:
@@ -30,9 +36,11 @@ class House:
 
     def settle(self, grammar):
         self.grammar = grammar
-        self.state = State([], [], [])
+        self.state = State([], Reading(), [])
         self.named_words = 0
         self.rule_names = {}
+        # By names of rules, in the tree or not: so undo has nothing to do with them.
+        self.mark_of = {}
         self.past = []
         self.future = []
 
@@ -80,7 +88,60 @@ class House:
         state = self.state
         if not state.names:
             return [-2]
-        return [len(state.names)] + state.names + state.numbers
+        return [len(state.names)] + state.names + state.reading.numbers
+
+    def words(self):
+        answered = [len(self.state.text)]
+        for name, word in self.state.text:
+            answered.extend([name, word])
+        return answered
+
+    def node(self, name):
+        missing = self.why_missing(name)
+        if missing is not None:
+            return [missing]
+        names = self.state.names
+        placed = self.state.reading.placed[names.index(name)]
+        around = 0 if placed.around is None else names[placed.around] + 1
+        return [placed.rule, placed.start, placed.end - placed.start, around]
+
+    def at(self, i, j):
+        if not i < j <= len(self.state.text):
+            return [-1]
+        if not self.state.names:
+            return [-2]
+        over = [name for name, placed in self.state.named_rules() if placed.start <= i and j <= placed.end]
+        # Of the rules over a stretch each stands within the one before it.
+        return [over[-1]]
+
+    def mark(self, name, number):
+        if number > HIGHEST_MARK:
+            return [-1]
+        missing = self.why_missing(name)
+        if missing is not None:
+            return [missing]
+        if number == 0:
+            self.mark_of.pop(name, None)
+        elif name not in self.mark_of and len(self.mark_of) == MOST_MARKS:
+            return [-5]
+        else:
+            self.mark_of[name] = number
+        return [len(self.mark_of)]
+
+    def marks(self):
+        awake = [pair for pair in self.state.named_rules() if pair[0] in self.mark_of]
+        answered = [len(awake), len(self.mark_of) - len(awake)]
+        for name, placed in awake:
+            answered.extend([name, self.mark_of[name], placed.start, placed.end - placed.start])
+        return answered
+
+    def why_missing(self, name):
+        """The refusal if the tree has no rule of this name, else None."""
+        if name >= len(self.rule_names):
+            return -2
+        if name not in self.state.names:
+            return -3
+        return None
 
     def change(self, text):
         self.past.append(self.state)
@@ -90,10 +151,8 @@ class House:
 
     def read(self, text):
         reading = first_reading(self.grammar, [word for name, word in text])
-        names = []
-        for rule, start, end in reading.rules:
-            names.append(self.rule_name(rule, text[start:end]))
-        return State(text, reading.numbers, names)
+        names = [self.rule_name(placed.rule, text[placed.start:placed.end]) for placed in reading.placed]
+        return State(text, reading, names)
 
     def rule_name(self, rule, stretch):
         """The rule's name over these words: the one that it ever had there, or else the next."""

@@ -6,15 +6,25 @@ from regrown.grammar import FIRST_PART
 FIRST_RULE = 64
 
 
-class Reading:
-    """A tree as its list, and its rules in that list's order, each with its stretch.
+class PlacedRule:
+    """A rule where it stands in a tree, over the stretch from start to end.
 
-    Both are empty if there's no tree.
+    around is the place of the rule right around it among the tree's rules, or None for the whole.
     """
+
+    def __init__(self, rule, start, end, around):
+        self.rule = rule
+        self.start = start
+        self.end = end
+        self.around = around
+
+
+class Reading:
+    """A tree as its list, and its rules in that list's order; both are empty if there's no tree."""
 
     def __init__(self):
         self.numbers = []
-        self.rules = []
+        self.placed = []
 
 
 class Chart:
@@ -107,15 +117,16 @@ def first_reading(grammar, words):
     if chart.first_rule(FIRST_PART, 0, len(words)) is None:
         return reading
     # A stack of what is still to be read, the leftmost on top: trees are too deep for nested calls.
-    waiting = [(FIRST_PART, 0, len(words))]
+    waiting = [(FIRST_PART, 0, len(words), None)]
     while waiting:
         piece = waiting.pop()
         if piece[0] < FIRST_PART:
             reading.numbers.append(piece[0])
         else:
             rule = chart.first_rule(piece[0], piece[1], piece[2])
+            place = len(reading.placed)
             reading.numbers.append(FIRST_RULE + rule)
-            reading.rules.append((rule, piece[1], piece[2]))
-            for smaller in reversed(chart.pieces(rule, piece[1], piece[2])):
-                waiting.append(smaller)
+            reading.placed.append(PlacedRule(rule, piece[1], piece[2], piece[3]))
+            for sign, start, end in reversed(chart.pieces(rule, piece[1], piece[2])):
+                waiting.append((sign, start, end, place))
     return reading

@@ -1,9 +1,11 @@
 """regrown.house.answers: the form of calls and of what is given back."""
 
+import pathlib
+import re
 import unittest
 
 from regrown.house import answers
-from tests.helper import HIGHEST, REDO, TREE, UNDO, begin, edit, move, part, rules
+from tests.helper import HIGHEST, MARKS, REDO, TREE, UNDO, WORDS, at, begin, edit, mark, move, node, part, rules
 
 GRAMMAR = begin(2, 2, rules((0, [part(1), part(1)]), (1, [0]), (1, [1])))
 
@@ -35,10 +37,31 @@ class WhatIsGivenBack(unittest.TestCase):
             5, 3, 1, 0, 1, 3,
             9, 3, 0, 1, 2, 64, 65, 0, 66, 1])
 
+    def test_each_call_that_asks_or_marks(self):
+        calls = MARKS + WORDS + GRAMMAR + edit(0, 0, [0, 1]) + WORDS + node(2) + at(0, 2) + mark(2, 9) + mark(1, 8)
+        calls += MARKS + edit(0, 1, []) + MARKS + mark(2, 0) + WORDS
+        self.assertEqual(answers(calls), [
+            2, 0, 0,
+            1, 0,
+            1, 0,
+            6, 3, 3, 0, 1, 2, 0,
+            5, 2, 0, 0, 1, 1,
+            4, 2, 1, 1, 1,
+            1, 0,
+            1, 1,
+            1, 2,
+            10, 2, 0, 1, 8, 0, 1, 2, 9, 1, 1,
+            6, 0, 0, 3, 0, 1, 2,
+            2, 0, 2,
+            1, -3,
+            3, 1, 1, 1])
+
     def test_a_refusal_is_one_number(self):
         calls = begin(0, 1, []) + begin(1, 1, [1]) + begin(1, 1, rules((0, [part(0)]))) + edit(0, 1, [])
         calls += edit(0, 0, [0] * 25) + move(0, 0, 0) + UNDO + REDO + TREE
         self.assertEqual(answers(calls), [1, -1, 1, -3, 1, -4, 1, -1, 1, -5, 1, -1, 1, -2, 1, -2, 1, -2])
+        calls = node(0) + at(0, 0) + edit(0, 0, [0]) + at(0, 1) + mark(0, HIGHEST) + mark(0, 0)
+        self.assertEqual(answers(calls), [1, -2, 1, -1, 3, 0, 0, 0, 1, -2, 1, -1, 1, -2])
 
     def test_empty_lists_and_long_ones_within_calls(self):
         calls = begin(1, 1, []) + edit(0, 0, []) + edit(0, 0, [HIGHEST] * 1024) + begin(1, 1, [4] * 1024) + UNDO
@@ -47,6 +70,8 @@ class WhatIsGivenBack(unittest.TestCase):
     def test_numbers_that_look_like_calls(self):
         calls = begin(7, 1, rules((0, [1, 2, 3, 4, 5, 6]))) + edit(0, 0, [1, 2, 3, 4, 5, 6]) + move(4, 1, 5) + UNDO
         self.assertEqual(answers(calls), [1, 0, 4, 1, 1, 0, 0, 4, 0, 0, 1, 0, 4, 1, 1, 0, 0])
+        calls = node(11) + at(9, 10) + mark(8, 7) + at(11, 11) + mark(10, 10) + MARKS + edit(0, 0, [10, 8, 9, 11, 7])
+        self.assertEqual(answers(calls), [1, -2, 1, -1, 1, -2, 1, -1, 1, -2, 2, 0, 0, 1, -1])
 
     def test_plain_whole_numbers_in_a_plain_list(self):
         given = answers(GRAMMAR + edit(0, 0, [0, 1]) + TREE + edit(0, 0, [1]) + UNDO + TREE + REDO + TREE)
@@ -61,6 +86,7 @@ class WhatIsGivenBack(unittest.TestCase):
 
 class NothingIsKept(unittest.TestCase):
     CALLS = GRAMMAR + edit(0, 0, [0, 1]) + TREE + edit(1, 1, [0]) + UNDO + TREE + move(0, 1, 1) + UNDO + REDO + TREE
+    CALLS += WORDS + mark(1, 5) + MARKS + node(1) + at(0, 1) + mark(2, 6) + edit(0, 1, []) + MARKS + UNDO + MARKS
 
     def test_what_was_handed_in_is_unchanged(self):
         calls = list(self.CALLS)
@@ -82,8 +108,18 @@ class NothingIsKept(unittest.TestCase):
     def test_each_list_is_about_a_new_house(self):
         answers(self.CALLS)
         self.assertEqual(answers(TREE + UNDO + REDO + edit(0, 0, [1])), [1, -2, 1, -2, 1, -2, 1, -1])
+        self.assertEqual(answers(WORDS + node(0) + mark(0, 1) + MARKS), [1, 0, 1, -2, 1, -2, 2, 0, 0])
         answers(edit(0, 0, [0]))
         self.assertEqual(answers(move(0, 1, 0)), [1, -1])
+
+
+class Readme(unittest.TestCase):
+    def test_its_example(self):
+        text = (pathlib.Path(__file__).resolve().parent.parent / "README.md").read_text()
+        code, shown = re.search(r"```python\n(.*?)\n# (\[.*?\])\n```", text, re.DOTALL).groups()
+        names = {}
+        exec(code, names)
+        self.assertEqual(names["given"], [int(number) for number in re.findall(r"-?\d+", shown)])
 
 
 if __name__ == "__main__":

@@ -30,6 +30,10 @@ add_note dataclass overload contextmanager""".split()
 
 DOUBLE = ("__init__", "__eq__", "__repr__", "__str__", "__len__")
 
+# What is walked on the spot, and the calls that walk their first argument.
+WALKED = ("zip", "enumerate", "reversed", "range", "items", "keys", "values")
+WALKERS = ("list", "tuple", "dict", "sorted", "sum", "any", "all", "enumerate", "zip", "min", "max")
+
 
 def files():
     return sorted(path for path in PACKAGE.rglob("*") if path.is_file() and "__pycache__" not in path.parts)
@@ -119,6 +123,95 @@ class Forms(unittest.TestCase):
         for path, node in nodes(ast.Attribute):
             if isinstance(node.ctx, ast.Store):
                 self.assertNotIn(node.attr, METHODS + own, (path, node.lineno))
+
+
+class BetweenFiles(unittest.TestCase):
+    def test_names_of_a_files_top_are_bound_once(self):
+        for path, tree in trees():
+            bound = []
+            for node in tree.body:
+                if isinstance(node, (ast.FunctionDef, ast.ClassDef)):
+                    bound.append(node.name)
+                elif isinstance(node, ast.Assign):
+                    bound.append(node.targets[0].id)
+                elif isinstance(node, ast.ImportFrom):
+                    bound += [alias.name for alias in node.names if alias.asname is None]
+            self.assertEqual(sorted(set(bound)), sorted(bound), path)
+            local = [node.arg for node in ast.walk(tree) if isinstance(node, ast.arg)]
+            local += [node.id for top in tree.body if not isinstance(top, ast.Assign) for node in ast.walk(top)
+                      if isinstance(node, ast.Name) and isinstance(node.ctx, ast.Store)]
+            self.assertEqual(sorted(set(local) & set(bound)), [], path)
+
+    def test_imports_are_from_the_file_that_defines_them(self):
+        defined = {}
+        for path, tree in trees():
+            here = defined.setdefault("regrown." + path.stem, [])
+            here += [node.name for node in tree.body if isinstance(node, (ast.FunctionDef, ast.ClassDef))]
+            here += [node.targets[0].id for node in tree.body if isinstance(node, ast.Assign)]
+        for path, node in nodes(ast.ImportFrom):
+            for alias in node.names:
+                self.assertIn(alias.name, defined[node.module], path)
+
+    def test_no_two_files_draw_from_one_another(self):
+        draws = {"regrown." + path.stem: [] for path in files()}
+        for path, node in nodes(ast.ImportFrom):
+            draws["regrown." + path.stem].append(node.module)
+        while draws:
+            free = [name for name in draws if not set(draws[name]) & set(draws)]
+            self.assertTrue(free, draws)
+            draws = {name: drawn for name, drawn in draws.items() if name not in free}
+
+
+class Details(unittest.TestCase):
+    def test_what_is_walked_on_the_spot(self):
+        for path, tree in trees():
+            spots = []
+            for node in ast.walk(tree):
+                if isinstance(node, (ast.For, ast.comprehension)):
+                    spots.append(node.iter)
+                if isinstance(node, ast.Call) and isinstance(node.func, ast.Name) and node.func.id in WALKERS:
+                    spots += node.args if node.func.id in ("enumerate", "zip") else node.args[:1]
+            for node in ast.walk(tree):
+                if isinstance(node, ast.Call):
+                    name = node.func.id if isinstance(node.func, ast.Name) else node.func.attr
+                    self.assertTrue(name not in WALKED or node in spots, (path, node.lineno))
+
+    def test_sets_are_not_kept(self):
+        for path, tree in trees():
+            held = []
+            for node in ast.walk(tree):
+                if isinstance(node, ast.Call) and isinstance(node.func, ast.Name) and node.func.id in ("sorted", "len"):
+                    held += [inner for inner in ast.walk(node.args[0])]
+                if isinstance(node, ast.Compare):
+                    held += node.comparators + [node.left]
+            for node in ast.walk(tree):
+                if isinstance(node, ast.Call) and isinstance(node.func, ast.Name):
+                    self.assertTrue(node.func.id not in ("set", "frozenset") or node in held, (path, node.lineno))
+
+    def test_is_stands_beside_none_true_and_false(self):
+        for path, node in nodes(ast.Compare):
+            for sign, value in zip(node.ops, node.comparators):
+                if isinstance(sign, (ast.Is, ast.IsNot)):
+                    self.assertIsInstance(value, ast.Constant, (path, node.lineno))
+                    self.assertIn(value.value, (None, True, False), (path, node.lineno))
+
+    def test_no_annotations(self):
+        for path, node in nodes(ast.FunctionDef):
+            self.assertIsNone(node.returns, (path, node.name))
+        for path, node in nodes(ast.arg):
+            self.assertIsNone(node.annotation, (path, node.arg))
+
+    def test_powers_have_a_written_exponent(self):
+        for path, node in nodes(ast.BinOp):
+            if isinstance(node.op, ast.Pow):
+                self.assertIn(node.right.value, range(65), (path, node.lineno))
+
+    def test_a_files_lists_and_dicts_hold_none_themselves(self):
+        for path, tree in trees():
+            for node in tree.body:
+                if isinstance(node, ast.Assign):
+                    inner = [held for held in ast.walk(node.value) if held != node.value]
+                    self.assertFalse([held for held in inner if isinstance(held, (ast.List, ast.Dict))], path)
 
 
 if __name__ == "__main__":

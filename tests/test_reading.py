@@ -5,8 +5,8 @@ import random
 import sys
 import unittest
 
-from tests.helper import REDO, TREE, UNDO, SlowHouse, all_trees, ask, begin, edit, last, move, part, rules, tree_list
-from tests.helper import tree_names
+from tests.helper import REDO, TREE, UNDO, SlowHouse, all_trees, ask, begin, edit, first_tree, last, move, part, rules
+from tests.helper import some_change, some_rules, tree_list, tree_names
 
 
 def list_of(words, parts, told, text):
@@ -161,33 +161,6 @@ class TheTreeCall(unittest.TestCase):
                                      [0, 0, 2, 0, 1], [-2]])
 
 
-def some_rules(source, words, parts):
-    """Different rules, none of them a step from a part to the same or an earlier one: so they're sound."""
-    told = []
-    for count in range(source.randint(2, 9)):
-        of_part = source.randrange(parts)
-        signs = []
-        for sign in range(source.choice((1, 1, 2, 2, 3, 4))):
-            signs.append(source.choice((source.randrange(words), part(source.randrange(parts)))))
-        step = len(signs) == 1 and signs[0] >= 64 and signs[0] <= part(of_part)
-        if not step and (of_part, signs) not in told:
-            told.append((of_part, signs))
-    return told
-
-
-def some_call(source, words, size):
-    """A call on a text of about this size; some are refused."""
-    i = source.randint(0, size)
-    n = source.randint(0, max(0, size - i) + source.choice((0, 0, 0, 1)))
-    choice = source.randrange(10)
-    if choice < 4:
-        new = [source.randrange(words + source.choice((0, 0, 0, 0, 1))) for count in range(source.randint(0, 3))]
-        return edit(i, n if size > 4 else n // 2, new)
-    if choice < 6:
-        return move(i, n, source.randint(0, max(0, size - n)))
-    return (UNDO, UNDO, REDO, TREE)[choice - 6]
-
-
 class AgainstEveryTree(unittest.TestCase):
     def test_short_texts_of_many_grammars(self):
         source = random.Random(20)
@@ -200,8 +173,10 @@ class AgainstEveryTree(unittest.TestCase):
                 text = [source.randrange(words) for word in range(size)]
                 found = all_trees(told, 64, text)
                 with_several += len(found) > 1
-                first = min(found)[1] if found else None
-                self.assertEqual(list_of(words, parts, told, text), first, (told, text))
+                first = min(found, default=None)
+                # So the slow house, which builds fewer trees, may be compared with below.
+                self.assertEqual(first_tree(told, text), first, (told, text))
+                self.assertEqual(list_of(words, parts, told, text), first[1] if found else None, (told, text))
         self.assertGreater(with_several, 50)
 
     def test_whole_lists_of_calls(self):
@@ -214,7 +189,7 @@ class AgainstEveryTree(unittest.TestCase):
             calls = [begin(words, parts, rules(*told))]
             expected = [[0]]
             for count in range(40):
-                calls.append(some_call(source, words, min(5, len(slow.text()))))
+                calls.append(some_change(source, words, min(5, len(slow.text()))))
                 expected.append(slow.answer(calls[-1]))
                 if len(slow.text()) > 6:
                     calls.append(edit(0, 4, []))
@@ -240,7 +215,7 @@ class AgainstEveryTree(unittest.TestCase):
             told = some_rules(source, 2, 2) + [(0, [0, 1]), (0, [1, part(0)]), (0, [part(0), 0])]
             calls = [begin(2, 2, rules(*[rule for k, rule in enumerate(told) if rule not in told[:k]]))]
             for count in range(30):
-                calls += [some_call(source, 2, 4), TREE]
+                calls += [some_change(source, 2, 4), TREE]
             there = []
             for call, given, tree in zip(calls[1::2], *[ask(*calls)[first::2] for first in (1, 2)]):
                 if call != TREE and given[0] >= 0:

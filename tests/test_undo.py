@@ -39,7 +39,8 @@ class RightBehindAChange(unittest.TestCase):
 
 class Several(unittest.TestCase):
     def test_in_a_row(self):
-        changes = [edit(0, 0, [0]), edit(1, 0, [1, 1]), move(0, 1, 2), edit(1, 1, [0, 1]), move(1, 2, 0), edit(0, 1, [])]
+        changes = [edit(0, 0, [0]), edit(1, 0, [1, 1]), move(0, 1, 2)]
+        changes += [edit(1, 1, [0, 1]), move(1, 2, 0), edit(0, 1, [])]
         calls = [GRAMMAR, TREE]
         for change in changes:
             calls += [change, TREE]
